@@ -1,0 +1,1 @@
+"""Toads and frogs change sides."""
