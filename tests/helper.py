@@ -2,8 +2,11 @@
 
 from toadsfrogs.stones import answers
 
-NUMBERS = {"row": 0, "move": 1, "moves": 2, "shows": 3, "to": 4, "ways": 5}
-WITH_ROW = ("row", "to", "ways")
+NUMBERS = {
+    "row": 0, "move": 1, "moves": 2, "shows": 3, "to": 4, "ways": 5,
+    "comes": 6, "stucks": 7, "longest": 8, "safe": 9, "sides": 10,
+}
+WITH_ROW = ("row", "to", "ways", "safe")
 
 
 def written(*calls):
@@ -70,3 +73,26 @@ def slow_ways(row):
         for stone, (length, then) in slow_moves(now).items():
             waiting.append((then, way + (stone,), leaps + (length == 2)))
     return ways
+
+
+def slow_comes(row):
+    """The rows that can come, in order, for rows with too many ways to make them all."""
+    met = {row}
+    waiting = [row]
+    while waiting:
+        for _, then in slow_moves(waiting.pop()).values():
+            if then not in met:
+                met.add(then)
+                waiting.append(then)
+    return sorted(met)
+
+
+def slow_longest(row, known):
+    """The first of the longest ways, put together from the end; known keeps what is found."""
+    if row not in known:
+        known[row] = ()
+        for stone, (_, then) in slow_moves(row).items():
+            way = (stone,) + slow_longest(then, known)
+            if len(way) > len(known[row]):
+                known[row] = way
+    return known[row]

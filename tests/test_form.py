@@ -13,6 +13,14 @@ ALLOWED = set(
     "OverflowError RuntimeError NotImplementedError AttributeError StopIteration".split()
 )
 
+STATEMENTS = set(
+    "Module FunctionDef ClassDef ImportFrom Assign AugAssign If While For Return Break Continue Pass Raise Expr".split()
+)
+UNUSED_WORDS = (
+    "type typing typing_extensions enum Enum IntEnum StrEnum Flag IntFlag Generic Protocol ABC ABCMeta namedtuple "
+    "NamedTuple TypedDict TYPE_CHECKING abstractmethod".split()
+)
+
 
 def package_files():
     return [path for path in sorted(PACKAGE.rglob("*")) if path.is_file() and "__pycache__" not in path.parts]
@@ -48,6 +56,54 @@ class Form(unittest.TestCase):
         for path in package_files():
             names = {node.id for node in ast.walk(ast.parse(path.read_text())) if isinstance(node, ast.Name)}
             self.assertEqual(sorted(names & set(dir(builtins)) - ALLOWED), [], path)
+
+    def test_statements(self):
+        for path in package_files():
+            for node in ast.walk(ast.parse(path.read_text())):
+                if isinstance(node, (ast.stmt, ast.mod)):
+                    self.assertIn(type(node).__name__, STATEMENTS, path)
+                if isinstance(node, ast.Assign):
+                    self.assertEqual(len(node.targets), 1, path)
+                    self.assertNotIsInstance(node.targets[0], (ast.Tuple, ast.List), path)
+                if isinstance(node, (ast.For, ast.While)):
+                    self.assertEqual(node.orelse, [], path)
+
+    def test_plain_values(self):
+        for path in package_files():
+            for node in ast.walk(ast.parse(path.read_text())):
+                self.assertNotIsInstance(node, (ast.Div, ast.Starred, ast.NamedExpr, ast.SetComp, ast.DictComp), path)
+                self.assertNotIsInstance(node, (ast.GeneratorExp, ast.Set, ast.Is, ast.IsNot), path)
+                if isinstance(node, ast.Constant):
+                    self.assertIn(type(node.value), (int, str, bool, type(None)), path)
+
+    def test_words_that_are_not_used(self):
+        for path in package_files():
+            text = path.read_text()
+            self.assertEqual([word for word in UNUSED_WORDS if re.search(rf"\b{word}\b", text)], [], path)
+            self.assertIsNone(re.search("dataclass|overload|contextmanager", text), path)
+
+    def test_each_name_is_bound_once_at_the_top(self):
+        for path in package_files():
+            bound = []
+            for node in ast.parse(path.read_text()).body:
+                if isinstance(node, ast.ImportFrom):
+                    bound.extend(alias.asname or alias.name for alias in node.names)
+                elif isinstance(node, ast.Assign):
+                    bound.append(node.targets[0].id)
+                elif isinstance(node, (ast.FunctionDef, ast.ClassDef)):
+                    bound.append(node.name)
+            self.assertEqual(sorted(set(bound)), sorted(bound), path)
+
+    def test_no_name_is_a_method_and_a_value(self):
+        methods = set()
+        values = set()
+        for path in package_files():
+            for node in ast.walk(ast.parse(path.read_text())):
+                if isinstance(node, ast.ClassDef):
+                    methods |= {inner.name for inner in node.body if isinstance(inner, ast.FunctionDef)}
+                if isinstance(node, ast.Attribute) and isinstance(node.ctx, ast.Store):
+                    values.add(node.attr)
+        self.assertEqual(methods & values, set())
 
 
 if __name__ == "__main__":

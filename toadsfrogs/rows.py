@@ -78,7 +78,8 @@ class Reach:
     """The rows that can come from one row.
 
     counts tells of each of them how many ways lead there, lasts (of all but the first)
-    the row before it and the stone moved there, on the first way.
+    the row before it and the stone moved there, on the first way. farthest is the row that
+    the first of the longest ways leads to.
     """
 
     def __init__(self, start):
@@ -86,6 +87,7 @@ class Reach:
         self.lasts = {}
         layer = [start]
         while layer:
+            self.farthest = layer[0]
             layer = self.one_move_on(layer)
 
     def one_move_on(self, layer):
@@ -102,6 +104,17 @@ class Reach:
                     onward.append(after)
                 self.counts[after] += self.counts[row]
         return onward
+
+    def rows_in_all(self):
+        """How many rows can come, the one at the start too."""
+        return len(self.counts)
+
+    def stuck_rows(self):
+        return [row for row in self.counts if not stones_to_move(row)]
+
+    def longest_way(self):
+        """The first of the longest ways."""
+        return self.first_way(self.farthest)
 
     def can_come(self, row):
         return row in self.counts

@@ -1,6 +1,7 @@
 """The calls about one row of stones: read from one list, answered in one list."""
 
-from toadsfrogs.rows import FREE, NO_MOVE, Reach, count_leaps, is_row, move_length, row_after, stones_to_move
+from toadsfrogs.rows import FREE, FROG, MOST_STONES, NO_MOVE, TOAD
+from toadsfrogs.rows import Reach, count_leaps, is_row, move_length, row_after, stones_to_move
 
 ROW = 0
 MOVE = 1
@@ -70,6 +71,44 @@ class Pond:
             return [NOT_THERE]
         return [Reach(self.held).ways_to(tuple(stones))]
 
+    def comes(self):
+        return [Reach(self.held).rows_in_all()]
+
+    def stucks(self):
+        # No way goes on for ever, so there is always a first one.
+        stuck = Reach(self.held).stuck_rows()
+        return [len(stuck)] + list(min(stuck))
+
+    def longest(self):
+        way = Reach(self.held).longest_way()
+        return [len(way)] + way
+
+    def still_leads(self, stone, target):
+        return Reach(row_after(self.held, stone)).can_come(target)
+
+    def safe(self, stones):
+        if not self.fits(stones):
+            return [NOT_THERE]
+        target = tuple(stones)
+        leading = [stone for stone in stones_to_move(self.held) if self.still_leads(stone, target)]
+        return [len(leading)] + leading
+
+
+def sides(toads, frogs, gap):
+    """How many moves it takes these to change sides; it has nothing to do with a row held."""
+    # If one of the three is above 9, so are they together.
+    together = toads + frogs + gap
+    if together < 1 or together > MOST_STONES:
+        return [NOT_THERE]
+    on_left = (TOAD,) * toads
+    on_right = (FROG,) * frogs
+    between = (FREE,) * gap
+    reach = Reach(on_left + between + on_right)
+    target = on_right + between + on_left
+    if not reach.can_come(target):
+        return [CANT_COME]
+    return [len(reach.first_way(target))]
+
 
 def call_end(calls, start):
     """The place behind the call that begins at start."""
@@ -108,7 +147,15 @@ def answer_call(pond, part):
         return pond.to(part[2:])
     if call == WAYS:
         return pond.ways(part[2:])
-    raise NotImplementedError("comes, stucks, longest, safe and sides are not answered yet")
+    if call == COMES:
+        return pond.comes()
+    if call == STUCKS:
+        return pond.stucks()
+    if call == LONGEST:
+        return pond.longest()
+    if call == SAFE:
+        return pond.safe(part[2:])
+    return sides(part[1], part[2], part[3])
 
 
 def answers(calls):
